@@ -55,6 +55,10 @@ func (k known) reach(something func(truth) reach) reach {
 func (k known) held(asked spot) reach {
 	return k.reach(func(t truth) reach {
 		held := t.left[asked.heap]
+		// Where nothing was carted, nothing is carted back.
+		if t.had == (loads{}) {
+			return held
+		}
 		for at := (spot{asked.heap, len(k.Moves)}); at != asked; {
 			at.behind--
 			held = k.does(at.behind, at.heap).before(held, t.had[at.behind])
