@@ -5,13 +5,6 @@ import "macadam/api"
 // twice is how often a journey passes a gate, at most.
 const twice = 2
 
-// beginnings is, for each New, whether a journey begins: all that can be so.
-var beginnings = [3][]bool{
-	api.TollGoes:    {false},
-	api.TollPerhaps: {false, true},
-	api.TollBegins:  {true},
-}
-
 // truth is all truths that have the same journeys: for each passage, the one with which its journey begins. In them each pass weighs all that it can, whatever the others weigh.
 type truth [api.TollPassages]int
 
@@ -28,10 +21,14 @@ type journey struct {
 
 // beginnings returns whether a journey begins with the passage behind j: all that can be so. With the first passage of a wagon one does.
 func (j journey) beginnings(isNew int) []bool {
-	if j.times == (times{}) {
-		isNew = api.TollBegins
+	switch {
+	case isNew == api.TollBegins || j.times == (times{}):
+		return []bool{true}
+	case isNew == api.TollGoes:
+		return []bool{false}
+	default:
+		return []bool{false, true}
 	}
-	return beginnings[isNew]
 }
 
 // behind returns the journey of the passage n: a new one that begins, or j.
